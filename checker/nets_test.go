@@ -1,0 +1,192 @@
+package checker_test
+
+import (
+	"strconv"
+
+	"circheck/api"
+)
+
+// net is a circuit for tests, with literals of its own choice.
+type net struct {
+	top     int
+	inputs  []int
+	latches [][3]int // literal, what it becomes, what it begins as
+	gates   [][3]int // literal, operands
+	bad     int
+}
+
+func line(numbers ...int) string {
+	text := ""
+	for k, n := range numbers {
+		if k > 0 {
+			text += " "
+		}
+		text += strconv.Itoa(n)
+	}
+	return text + "\n"
+}
+
+// plain is the net as a file.
+func (n *net) plain() string {
+	text := "aag " + line(n.top, len(n.inputs), len(n.latches), 0, len(n.gates), 1)
+	for _, l := range n.inputs {
+		text += line(l)
+	}
+	for _, l := range n.latches {
+		text += line(l[:]...)
+	}
+	text += line(n.bad)
+	for _, g := range n.gates {
+		text += line(g[:]...)
+	}
+	return text
+}
+
+// ordered is the net as a file in the order that P5 asks for.
+func (n *net) ordered() string {
+	place := map[int]int{0: 0}
+	to := func(l int) int { return 2*place[l/2] + l%2 }
+	for _, l := range n.inputs {
+		place[l/2] = len(place)
+	}
+	for _, l := range n.latches {
+		place[l[0]/2] = len(place)
+	}
+	gates := ""
+	waiting := append([][3]int(nil), n.gates...)
+	for len(waiting) > 0 {
+		k := 0
+		for ; k < len(waiting)-1; k++ {
+			_, a := place[waiting[k][1]/2]
+			_, b := place[waiting[k][2]/2]
+			if a && b {
+				break
+			}
+		}
+		g := waiting[k]
+		waiting = append(waiting[:k], waiting[k+1:]...)
+		place[g[0]/2] = len(place)
+		gates += line(to(g[0]), max(to(g[1]), to(g[2])), min(to(g[1]), to(g[2])))
+	}
+	text := "aag " + line(len(place)-1, len(n.inputs), len(n.latches), 0, len(n.gates), 1)
+	for _, l := range n.inputs {
+		text += line(to(l))
+	}
+	for _, l := range n.latches {
+		switch l[2] {
+		case 0:
+			text += line(to(l[0]), to(l[1]))
+		case 1:
+			text += line(to(l[0]), to(l[1]), 1)
+		default:
+			text += line(to(l[0]), to(l[1]), to(l[2]))
+		}
+	}
+	return text + line(to(n.bad)) + gates
+}
+
+// step tells the next state and the bad, from the net's own lines.
+func (n *net) step(state, input int) (int, bool) {
+	known := map[int]bool{0: false}
+	for j, l := range n.inputs {
+		known[l/2] = input>>j&1 == 1
+	}
+	for j, l := range n.latches {
+		known[l[0]/2] = state>>j&1 == 1
+	}
+	var value func(l int) bool
+	value = func(l int) bool {
+		if _, ok := known[l/2]; !ok {
+			for _, g := range n.gates {
+				if g[0]/2 == l/2 {
+					known[l/2] = value(g[1]) && value(g[2])
+				}
+			}
+		}
+		return known[l/2] != (l%2 == 1)
+	}
+	next := 0
+	for j, l := range n.latches {
+		if value(l[1]) {
+			next += 1 << j
+		}
+	}
+	return next, value(n.bad)
+}
+
+func (n *net) begins(state int) bool {
+	for j, l := range n.latches {
+		if l[2] < 2 && state>>j&1 != l[2] {
+			return false
+		}
+	}
+	return true
+}
+
+// dice are numbers that look like chance and are the same each time.
+type dice struct{ state uint64 }
+
+func (d *dice) below(n int) int {
+	d.state = d.state*6364136223846793005 + 1442695040888963407
+	return int(d.state>>33) % n
+}
+
+func (d *dice) shuffle(length int, swap func(i, j int)) {
+	for k := length - 1; k > 0; k-- {
+		swap(k, d.below(k+1))
+	}
+}
+
+// scattered is a net whose variables have any numbers and whose gates stand in any order.
+func scattered(seed int) *net {
+	d := &dice{state: uint64(seed)}
+	in, latches, gates := d.below(api.MaxIn+1), d.below(5), d.below(24)
+	n := &net{top: in + latches + gates + d.below(9)}
+	var free []int
+	for v := 1; v <= n.top; v++ {
+		free = append(free, 2*v)
+	}
+	d.shuffle(len(free), func(i, j int) { free[i], free[j] = free[j], free[i] })
+	ready := []int{0}
+	take := func() int {
+		l := free[0]
+		free = free[1:]
+		ready = append(ready, l)
+		return l
+	}
+	any := func() int { return ready[d.below(len(ready))] + d.below(2) }
+	for len(n.inputs) < in {
+		n.inputs = append(n.inputs, take())
+	}
+	for len(n.latches) < latches {
+		l := take()
+		n.latches = append(n.latches, [3]int{l, 0, []int{0, 1, l}[d.below(3)]})
+	}
+	for len(n.gates) < gates {
+		a, b := any(), any()
+		n.gates = append(n.gates, [3]int{take(), a, b})
+	}
+	for j := range n.latches {
+		n.latches[j][1] = any()
+	}
+	n.bad = any()
+	d.shuffle(len(n.gates), func(i, j int) { n.gates[i], n.gates[j] = n.gates[j], n.gates[i] })
+	return n
+}
+
+// largest is a net of as much of everything as may be, which still fits in a file.
+func largest() *net {
+	n := &net{top: api.MaxIndex}
+	for l := 2; l <= 140; l += 2 {
+		switch {
+		case l <= 8:
+			n.inputs = append(n.inputs, l)
+		case l <= 20:
+			n.latches = append(n.latches, [3]int{l, l + 120, l})
+		default:
+			n.gates = append(n.gates, [3]int{l, l - 2, l - 19})
+		}
+	}
+	n.bad = 140
+	return n
+}
