@@ -190,3 +190,71 @@ func largest() *net {
 	n.bad = 140
 	return n
 }
+
+// blank is a net of so many inputs and latches, which begin as 0 and become 0.
+func blank(inputs, latches int) *net {
+	n := &net{top: inputs + latches}
+	for l := 2; l <= 2*n.top; l += 2 {
+		if l <= 2*inputs {
+			n.inputs = append(n.inputs, l)
+		} else {
+			n.latches = append(n.latches, [3]int{l, 0, 0})
+		}
+	}
+	return n
+}
+
+func (n *net) and(a, b int) int {
+	n.top++
+	n.gates = append(n.gates, [3]int{2 * n.top, a, b})
+	return 2 * n.top
+}
+
+func (n *net) xor(a, b int) int {
+	both := n.and(a, b)
+	none := n.and(a^1, b^1)
+	return n.and(both^1, none^1)
+}
+
+// is: the latches from the first one on spell the number.
+func (n *net) is(first, number int) int {
+	all := 1
+	for j := first; j < len(n.latches); j++ {
+		all = n.and(all, n.latches[j][0]^1^number>>j&1)
+	}
+	return all
+}
+
+// countFrom lets the latches from one on count up, if the literal is true.
+func (n *net) countFrom(first, carry int) {
+	for j := first; j < len(n.latches); j++ {
+		own := n.latches[j][0]
+		n.latches[j][1] = n.xor(own, carry)
+		carry = n.and(own, carry)
+	}
+}
+
+// winding is a net of six latches that comes to many states, one behind the other: a row of latches whose first one becomes something of the others.
+func winding(seed int) *net {
+	d := &dice{state: uint64(seed)}
+	n := blank(d.below(3), api.MaxLatch)
+	any := func() int { return 2*d.below(n.top+1) + d.below(2) }
+	for j := 1; j < len(n.latches); j++ {
+		n.latches[j][1] = n.latches[j-1][0] ^ d.below(2)
+	}
+	back := n.latches[len(n.latches)-1][0]
+	for k := d.below(4); k > 0; k-- {
+		if d.below(2) == 0 {
+			back = n.xor(back, any())
+		} else {
+			back = n.and(back, any()) ^ d.below(2)
+		}
+	}
+	n.latches[0][1] = n.xor(back, n.latches[d.below(len(n.latches)-1)][0])
+	for j := range n.latches {
+		own := n.latches[j][0]
+		n.latches[j][2] = []int{0, 0, 0, 0, 1, 1, 1, own}[d.below(8)]
+	}
+	n.bad = n.is(0, d.below(64))
+	return n
+}

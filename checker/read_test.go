@@ -1,6 +1,7 @@
 package checker_test
 
 import (
+	"reflect"
 	"strings"
 	"testing"
 
@@ -24,6 +25,23 @@ func checkFaults(t *testing.T, files []faulty) {
 		}
 		if (c == nil) != (f.e != api.OK) {
 			t.Errorf("P3: Read(%.80q) has a circuit: %v, with fault %d", f.file, c != nil, got.E)
+		}
+		checkRunFault(t, f)
+	}
+}
+
+// checkRunFault: a run of a file has the file's fault, whatever there is to spend, and nothing beside it.
+func checkRunFault(t *testing.T, f faulty) {
+	t.Helper()
+	fault := api.Fault{E: f.e, Pos: f.pos}
+	for _, budget := range []int{0, 5, api.Enough} {
+		r := checker.Run(f.file, budget)
+		if r == nil || r.F != fault || (r.V == api.Bad) != (f.e != api.OK) {
+			t.Errorf("P12: Run(%.80q, %d) = %+v, want the fault %+v", f.file, budget, r, fault)
+			continue
+		}
+		if f.e != api.OK && !reflect.DeepEqual(r, &api.Result{F: fault}) {
+			t.Errorf("P12: Run(%.80q, %d) = %+v, want nothing beside the fault", f.file, budget, r)
 		}
 	}
 }
